@@ -4,6 +4,7 @@ package sess
 import (
 	"portage/api"
 	"portage/bound"
+	"portage/twin"
 )
 
 // Check tells whether these are sessions as a state may have them.
@@ -31,7 +32,7 @@ func Find(l []api.Session, client int) (api.Session, bool, api.Errno) {
 	}
 	for _, s := range l {
 		if s.Client == client {
-			return twin(s), true, api.OK
+			return twin.Session(s), true, api.OK
 		}
 	}
 	return api.Session{}, false, api.OK
@@ -46,7 +47,7 @@ func Put(l []api.Session, s api.Session) ([]api.Session, api.Errno) {
 		return nil, e
 	}
 	out := those(l, func(o api.Session) bool { return o.Client < s.Client })
-	out = append(out, twin(s))
+	out = append(out, twin.Session(s))
 	out = append(out, those(l, func(o api.Session) bool { return o.Client > s.Client })...)
 	if len(out) > api.MaxTable {
 		return nil, api.ErrMany
@@ -96,14 +97,8 @@ func those(l []api.Session, wanted func(api.Session) bool) []api.Session {
 	var out []api.Session
 	for _, s := range l {
 		if wanted(s) {
-			out = append(out, twin(s))
+			out = append(out, twin.Session(s))
 		}
 	}
 	return out
-}
-
-// twin is the same session, which shares no memory with it.
-func twin(s api.Session) api.Session {
-	s.Kept = append([]api.Reply(nil), s.Kept...)
-	return s
 }
