@@ -1,4 +1,4 @@
-// Package promises tests what all chapters promise of memory: P2 and P3, call by call.
+// Package promises tests P2 and P3, what all chapters promise of memory, of calls of any layer.
 package promises
 
 import (
