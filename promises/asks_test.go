@@ -6,7 +6,9 @@ import (
 	"portage/api"
 	"portage/apply"
 	"portage/fold"
+	"portage/snap"
 	"portage/state"
+	"portage/trace"
 )
 
 func row(client int) api.Session {
@@ -72,14 +74,19 @@ func TestApplyMemory(t *testing.T) {
 	}
 }
 
-// P2 and P3 of fold: of no entries, of one of each kind, of all.
-func TestFoldMemory(t *testing.T) {
+// lists of entries: none, one of each kind, all, and those without the wrong one.
+func lists() [][]api.Entry {
 	all := entries()
-	lists := [][]api.Entry{nil, {}, all, all[:len(all)-1]}
+	out := [][]api.Entry{nil, {}, all, all[:len(all)-1]}
 	for i := range all {
-		lists = append(lists, all[i:i+1])
+		out = append(out, all[i:i+1])
 	}
-	for _, l := range lists {
+	return out
+}
+
+// P2 and P3 of fold.
+func TestFoldMemory(t *testing.T) {
+	for _, l := range lists() {
 		checkMemory(t, askAll("All", shop, l))
 		checkMemory(t, askAll("All from the beginning", state.Begin, l))
 		checkMemory(t, ask{
@@ -109,5 +116,64 @@ func TestListsApart(t *testing.T) {
 		if meet(places(boxes([]any{s, a, kept}))) {
 			t.Errorf("All of %d: lists share memory", k)
 		}
+	}
+}
+
+// done are entries of which each call but the last is done, from the beginning on.
+func done() []api.Entry {
+	return []api.Entry{open(1, 2), open(1, 4), call(2, 2, 3, 0), call(2, 4, 1, 0), call(3, 2, 4, 2), call(3, 2, 3, 0)}
+}
+
+// askTrace asks what was done by a list of entries.
+func askTrace(name string, l []api.Entry, call func(l []api.Entry) []any) ask {
+	return ask{
+		name: name,
+		args: func() []any { return []any{l} },
+		call: func(a []any) []any { return call(a[0].([]api.Entry)) },
+	}
+}
+
+// P2 and P3 of trace.
+func TestTraceMemory(t *testing.T) {
+	for _, l := range append(lists(), done()) {
+		checkMemory(t, askTrace("Done", l, func(l []api.Entry) []any {
+			is, e := trace.Done(l)
+			return []any{is, e}
+		}))
+		checkMemory(t, askTrace("Ops", l, func(l []api.Entry) []any {
+			ops, e := trace.Ops(l)
+			return []any{ops, e}
+		}))
+		checkMemory(t, askTrace("Once", l, func(l []api.Entry) []any {
+			n, e := trace.Once(l, 2, 3)
+			return []any{n, e}
+		}))
+	}
+}
+
+// P2 and P3 of snap: of right states, and of wrong ones.
+func TestSnapMemory(t *testing.T) {
+	wrong := shop()
+	wrong.Table[0], wrong.Table[1] = wrong.Table[1], wrong.Table[0]
+	for _, s := range []api.State{state.Begin(), shop(), wrong} {
+		checkMemory(t, ask{
+			name: "Write",
+			args: func() []any { return []any{s} },
+			call: func(a []any) []any {
+				b, e := snap.Write(a[0].(api.State))
+				return []any{b, e}
+			},
+		})
+	}
+	good, _ := snap.Write(shop())
+	for _, b := range []string{good, good[1:], good + "x", ""} {
+		checkMemory(t, ask{
+			name: "Read",
+			args: func() []any { return []any{b} },
+			call: func(a []any) []any {
+				s, e := snap.Read(a[0].(string))
+				return []any{s, e}
+			},
+		})
 	}
 }

@@ -191,7 +191,7 @@ func checkMemory(t *testing.T, k ask) {
 	if meet(places(first)) {
 		t.Errorf("%s: two lists of an answer share memory", k.name)
 	}
-	if len(places(args)) > 0 && meet(append(onlyOnce(places(args)), append(places(first), places(second)...)...)) {
+	if meet(append(onlyOnce(places(args)), append(places(first), places(second)...)...)) {
 		t.Errorf("%s: an answer shares memory with what was handed in, or with another answer", k.name)
 	}
 	spoilAll(args)
