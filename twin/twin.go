@@ -18,3 +18,18 @@ func State(s api.State) api.State {
 	s.Table = table
 	return s
 }
+
+// Entries are the same entries, in a list of their own.
+func Entries(l []api.Entry) []api.Entry { return append([]api.Entry(nil), l...) }
+
+// Log is the same log, with lists of its own.
+func Log(l api.Log) api.Log { return api.Log{Base: State(l.Base), Tail: Entries(l.Tail)} }
+
+// Group is the same group, with lists of its own.
+func Group(g api.Group) api.Group {
+	g.Log = Log(g.Log)
+	for i, s := range g.Nodes {
+		g.Nodes[i] = State(s)
+	}
+	return g
+}

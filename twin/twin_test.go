@@ -36,3 +36,47 @@ func TestState(t *testing.T) {
 		t.Errorf("the twin of nothing is %v", got)
 	}
 }
+
+func shop() api.State {
+	return api.State{At: 1, Clock: 5, Table: []api.Session{{Client: 1, Kept: kept()}, {Client: 3, Seen: 4}}}
+}
+
+func list() []api.Entry {
+	return []api.Entry{{Kind: api.Open, Client: 2}, {Kind: api.Close, Client: 3}}
+}
+
+func TestEntries(t *testing.T) {
+	l := list()
+	got := Entries(l)
+	l[1].Client = 9
+	if !reflect.DeepEqual(got, list()) {
+		t.Errorf("the twin of %v is %v", list(), got)
+	}
+	if got := Entries(l[:0]); len(got) != 0 || cap(got) != 0 {
+		t.Errorf("the twin of none is %v, with room for %d", got, cap(got))
+	}
+}
+
+func TestLog(t *testing.T) {
+	l, want := api.Log{Base: shop(), Tail: list()}, api.Log{Base: shop(), Tail: list()}
+	got := Log(l)
+	l.Tail[0].Client, l.Base.Table[0].Kept[0].Val, l.Base.Table[1].Client = 9, 99, 5
+	if !reflect.DeepEqual(got, want) {
+		t.Errorf("the twin of %v is %v", want, got)
+	}
+}
+
+func TestGroup(t *testing.T) {
+	full := func() api.Group {
+		return api.Group{Log: api.Log{Base: shop(), Tail: list()}, Nodes: [api.Nodes]api.State{shop(), {At: 2}, shop()}}
+	}
+	g := full()
+	got := Group(g)
+	g.Log.Tail[0].Client, g.Log.Base.Table[0].Client = 9, 9
+	for _, s := range []api.State{g.Nodes[0], g.Nodes[2]} {
+		s.Table[0].Kept[0].Val, s.Table[1].Client = 99, 5
+	}
+	if !reflect.DeepEqual(got, full()) {
+		t.Errorf("the twin of %v is %v", full(), got)
+	}
+}
