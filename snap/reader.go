@@ -1,59 +1,38 @@
 package snap
 
-import "portage/api"
-
-// reader has the bytes that are not read yet.
-type reader struct{ rest string }
+import (
+	"portage/api"
+	"portage/octet"
+)
 
 // parse reads a state, be it right or not. It is not whole, if the bytes end too early, or if some are left.
-func parse(b string) (s api.State, whole bool) {
-	defer func() {
-		if recover() != nil {
-			s, whole = api.State{}, false
-		}
-	}()
-	r := reader{b}
-	s = readState(&r)
-	return s, r.rest == ""
+func parse(b string) (api.State, bool) {
+	s, size, whole := octet.Read(b, readState)
+	return s, whole && size == len(b)
 }
 
-func readState(r *reader) api.State {
-	s := api.State{At: r.small(), Clock: r.wide()}
+func readState(r *octet.Reader) api.State {
+	s := api.State{At: r.Small(), Clock: r.Wide()}
 	for i := range s.Vals {
-		s.Vals[i] = r.wide()
+		s.Vals[i] = r.Wide()
 	}
 	s.Table = list(r, readSession)
 	return s
 }
 
-func readSession(r *reader) api.Session {
-	return api.Session{Client: r.small(), Acked: r.small(), Seen: r.wide(), Kept: list(r, readReply)}
+func readSession(r *octet.Reader) api.Session {
+	return api.Session{Client: r.Small(), Acked: r.Small(), Seen: r.Wide(), Kept: list(r, readReply)}
 }
 
-func readReply(r *reader) api.Reply {
-	return api.Reply{Seq: r.small(), Val: r.wide() - shift}
+func readReply(r *octet.Reader) api.Reply {
+	return api.Reply{Seq: r.Small(), Val: r.Wide() - shift}
 }
 
 // list reads how many there are, and each of them.
-func list[T any](r *reader, one func(r *reader) T) []T {
+func list[T any](r *octet.Reader, one func(r *octet.Reader) T) []T {
 	var out []T
-	for range r.small() {
+	for range r.Small() {
 		out = append(out, one(r))
 	}
 	return out
-}
-
-// small panics where the bytes end, so that whoever reads need not ask for it at each number; parse recovers.
-func (r *reader) small() int {
-	if r.rest == "" {
-		panic("the bytes end too early")
-	}
-	n := int(r.rest[0])
-	r.rest = r.rest[1:]
-	return n
-}
-
-func (r *reader) wide() int {
-	high := r.small()
-	return high<<8 + r.small()
 }

@@ -33,3 +33,9 @@ func Group(g api.Group) api.Group {
 	}
 	return g
 }
+
+// Stub is the same client's own, with a list of its own.
+func Stub(s api.Stub) api.Stub {
+	s.Came = append([]int(nil), s.Came...)
+	return s
+}

@@ -80,3 +80,19 @@ func TestGroup(t *testing.T) {
 		t.Errorf("the twin of %v is %v", full(), got)
 	}
 }
+
+func TestStub(t *testing.T) {
+	s := api.Stub{Client: 2, Next: 5, Came: []int{1, 2, 4}}
+	want := api.Stub{Client: 2, Next: 5, Came: []int{1, 2, 4}}
+	got := Stub(s)
+	if !reflect.DeepEqual(got, want) {
+		t.Errorf("the twin of %v is %v", want, got)
+	}
+	s.Came[1] = 3
+	if !reflect.DeepEqual(got, want) {
+		t.Errorf("a change is seen in the twin: %v", got)
+	}
+	if got := Stub(api.Stub{}); !reflect.DeepEqual(got, api.Stub{}) {
+		t.Errorf("the twin of nothing is %v", got)
+	}
+}
